@@ -1,0 +1,1 @@
+"""A bridge put together piece by piece."""
