@@ -1,19 +1,39 @@
 """The calls on a bridge: read from one list of whole numbers, answered in another."""
 
 from bridgestages.design import Design, is_design
+from bridgestages.ways import furthest, plan_from, props_needed, ways_from
 
 BEGINS = 0
 RESTS = 1
 CARRIES = 2
 FALLS = 3
 DOES = 4
+UNDO = 5
+FEWEST = 6
+PLAN = 7
+FAR = 8
+SPARE = 10
+STATE = 11
 
 # How many whole numbers stand behind each call's own.
-HANDED = (3, 2, 1, 1, 1, 0)
+HANDED = (3, 2, 1, 1, 1, 0, 0, 0, 0, 0, 0, 0)
+
+
+def with_lengths(rows):
+    """All rows one behind another, each behind how many numbers it has."""
+    told = []
+    for row in rows:
+        told.append(len(row))
+        told.extend(row)
+    return told
 
 
 class Bridge:
-    """A design and the stage of it that's there. Its calls answer a number; one below 0 is a refusal."""
+    """A design and the stage of it that's there.
+
+    A call that answers a number alone gives back this number, one with lists besides all that it answers as one list.
+    A number below 0 is a refusal.
+    """
 
     def __init__(self):
         self.design = Design(1, 0, 0)
@@ -61,9 +81,43 @@ class Bridge:
         self.stage = 0
         return 0
 
+    def fewest(self):
+        moves = plan_from(self.design, self.stage)
+        if moves is None:
+            return -6
+        return len(moves)
 
-def answer(bridge, call, numbers):
-    """The number that the bridge answers to the call with these numbers."""
+    def plan(self):
+        moves = plan_from(self.design, self.stage)
+        if moves is None:
+            return [-6]
+        return [len(moves)] + with_lengths([moves])
+
+    def far(self):
+        ways = ways_from(self.design, self.stage)
+        stage = furthest(self.design, ways)
+        return [self.design.pieces_there(stage)] + with_lengths([[stage, len(ways)]])
+
+    def needed(self):
+        at_once = props_needed(self.design)
+        if at_once is None:
+            return -6
+        return at_once
+
+    def spare(self):
+        if not self.design.does_carry(self.design.end()):
+            return [-6]
+        pieces = self.design.spare_pieces()
+        return [len(pieces)] + with_lengths([pieces])
+
+    def state(self):
+        design = self.design
+        counts = [design.pieces, design.props, design.at_once]
+        return [self.stage] + with_lengths([counts, with_lengths(design.bases)])
+
+
+def number_answered(bridge, call, numbers):
+    """What the bridge answers to a call that's answered by a number alone."""
     if call == BEGINS:
         return bridge.begins(numbers[0], numbers[1], numbers[2])
     if call == RESTS:
@@ -74,8 +128,25 @@ def answer(bridge, call, numbers):
         return bridge.falls(numbers[0])
     if call == DOES:
         return bridge.does(numbers[0])
-    # Of the calls that HANDED knows only undo, 5, is left, and it is handed nothing.
-    return bridge.undo()
+    if call == UNDO:
+        return bridge.undo()
+    if call == FEWEST:
+        return bridge.fewest()
+    # Of these calls only needed, 9, is left.
+    return bridge.needed()
+
+
+def answer(bridge, call, numbers):
+    """All numbers that the bridge answers to the call with these numbers."""
+    if call == PLAN:
+        return bridge.plan()
+    if call == FAR:
+        return bridge.far()
+    if call == SPARE:
+        return bridge.spare()
+    if call == STATE:
+        return bridge.state()
+    return [number_answered(bridge, call, numbers)]
 
 
 def answers(calls):
@@ -87,6 +158,5 @@ def answers(calls):
         call = calls[place]
         start = place + 1
         place = start + HANDED[call]
-        told.append(1)
-        told.append(answer(bridge, call, calls[start:place]))
+        told.extend(with_lengths([answer(bridge, call, calls[start:place])]))
     return told

@@ -23,6 +23,16 @@ def holds(stage, part):
     return (stage & part) == part
 
 
+def how_many(stage):
+    """How many things are in the stage."""
+    found = 0
+    left = stage
+    while left > 0:
+        found = found + (left & 1)
+        left = left >> 1
+    return found
+
+
 class Design:
     """Pieces, props, how many props may stand at once, and the sets on which each piece rests."""
 
@@ -31,6 +41,16 @@ class Design:
         self.props = props
         self.at_once = at_once
         self.bases = [[] for piece in range(pieces)]
+
+    def with_at_once(self, at_once):
+        """Another design that's like this one, but for how many props may stand at once."""
+        other = Design(self.pieces, self.props, at_once)
+        other.bases = [list(bases) for bases in self.bases]
+        return other
+
+    def end(self):
+        """The stage with all pieces and no prop."""
+        return (1 << self.pieces) - 1
 
     def is_piece(self, number):
         return number < self.pieces
@@ -71,6 +91,11 @@ class Design:
             left = self.without_loose(left)
         return left
 
+    def spare_pieces(self):
+        """The pieces, rising, without each of which the end's stage would carry."""
+        end = self.end()
+        return [piece for piece in range(self.pieces) if self.does_carry(end - (1 << piece))]
+
     def is_move(self, number):
         if number < FIRST_PUT:
             return self.is_piece(number)
@@ -81,13 +106,20 @@ class Design:
     def prop_bit(self, prop):
         return 1 << (self.pieces + prop)
 
+    def moves(self):
+        """All moves of the pieces and props, rising."""
+        lays = list(range(self.pieces))
+        puts = [FIRST_PUT + prop for prop in range(self.props)]
+        takes = [FIRST_TAKE + prop for prop in range(self.props)]
+        return lays + puts + takes
+
+    def pieces_there(self, stage):
+        """How many pieces are in the stage."""
+        return how_many(stage & self.end())
+
     def props_there(self, stage):
         """How many props are in the stage."""
-        found = 0
-        for prop in range(self.props):
-            if holds(stage, self.prop_bit(prop)):
-                found = found + 1
-        return found
+        return how_many(stage >> self.pieces)
 
     def with_thing(self, stage, bit):
         """The stage and the thing, or None where it's there already."""

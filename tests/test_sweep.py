@@ -1,8 +1,12 @@
-"""Promises 1 to 4 against the document's words, written down anew with sets, over many designs."""
+"""Promises 1 to 8 and state against the document's words, written down anew with sets, over many designs."""
 
 import unittest
 
-from tests.calling import LARGEST, ask, begins, carries, does, falls, rests, undo
+from tests.calling import (
+    LARGEST, ask, begins, carries, does, falls, far, fewest, needed, plan, rests, spare, state, undo,
+)
+
+CALLS = ("begins", "rests", "carries", "falls", "does", "undo", "fewest", "plan", "far", "needed", "spare", "state")
 
 
 def things_in(number):
@@ -23,10 +27,10 @@ class ByTheWords:
         self.order = [("piece", i) for i in range(pieces)] + [("prop", j) for j in range(props)]
         self.at_once = at_once
         self.sets = {thing: [] for thing in self.order if thing[0] == "piece"}
-        self.there = set()
+        self.there = frozenset()
 
     def read(self, number):
-        return {self.order[thing] for thing in things_in(number)}
+        return frozenset(self.order[thing] for thing in things_in(number))
 
     def write(self, things):
         return number_of(self.order.index(thing) for thing in things)
@@ -34,8 +38,37 @@ class ByTheWords:
     def loose(self, stage):
         return {thing for thing in stage if thing[0] == "piece" and not any(one <= stage for one in self.sets[thing])}
 
+    def end(self):
+        return frozenset(self.sets)
+
+    def behind(self, stage, kind, thing, at_once):
+        """The stage behind the move, or None where it can't be done."""
+        behind = stage - {thing} if kind == 2 else stage | {thing}
+        props = [other for other in behind if other[0] == "prop"]
+        if behind == stage or (kind == 1 and len(props) > at_once) or self.loose(behind):
+            return None
+        return behind
+
+    def plans(self, start, at_once):
+        """The plan to each stage to which moves lead: all ways of so many moves are held against one another."""
+        moves = [(number, 0, ("piece", number)) for number in range(len(self.sets))]
+        for _, prop in self.order[len(self.sets):]:
+            moves += [(10 + prop, 1, ("prop", prop)), (20 + prop, 2, ("prop", prop))]
+        plans = {}
+        newest = {start: []}
+        while newest:
+            plans.update(newest)
+            found = {}
+            for stage, done in newest.items():
+                for number, kind, thing in moves:
+                    behind = self.behind(stage, kind, thing, at_once)
+                    if behind is not None and behind not in plans:
+                        found[behind] = min(found.get(behind, done + [number]), done + [number])
+            newest = found
+        return plans
+
     def answer(self, call):
-        return getattr(self, ("begins", "rests", "carries", "falls", "does", "undo")[call[0]])(*call[1:])
+        return getattr(self, CALLS[call[0]])(*call[1:])
 
     def begins(self, pieces, props, at_once):
         if pieces not in range(1, 7) or props not in range(3) or at_once not in range(props + 1):
@@ -73,21 +106,45 @@ class ByTheWords:
         thing = ("piece", move) if move < 10 else ("prop", move % 10)
         if thing not in self.order or move >= 30:
             return -1
-        if move >= 20:
-            fits = thing in self.there
-            behind = self.there - {thing}
-        else:
-            fits = thing not in self.there
-            behind = self.there | {thing}
-        props = [other for other in behind if other[0] == "prop"]
-        if not fits or (10 <= move < 20 and len(props) > self.at_once) or self.loose(behind):
+        behind = self.behind(self.there, move // 10, thing, self.at_once)
+        if behind is None:
             return -6
         self.there = behind
         return self.write(behind)
 
     def undo(self):
-        self.there = set()
+        self.there = frozenset()
         return 0
+
+    def fewest(self):
+        moves = self.plans(self.there, self.at_once).get(self.end())
+        return -6 if moves is None else len(moves)
+
+    def plan(self):
+        moves = self.plans(self.there, self.at_once).get(self.end())
+        return -6 if moves is None else (len(moves), moves)
+
+    def far(self):
+        reached = self.plans(self.there, self.at_once)
+        told = [(len(stage & self.end()), self.write(stage)) for stage in reached]
+        most = max(pieces for pieces, _ in told)
+        return most, [min(stage for pieces, stage in told if pieces == most), len(reached)]
+
+    def needed(self):
+        props = len(self.order) - len(self.sets)
+        enough = [at_once for at_once in range(props + 1) if self.end() in self.plans(frozenset(), at_once)]
+        return min(enough, default=-6)
+
+    def spare(self):
+        if self.loose(self.end()):
+            return -6
+        pieces = [piece for kind, piece in self.sets if not self.loose(self.end() - {(kind, piece)})]
+        return len(pieces), pieces
+
+    def state(self):
+        counts = [len(self.sets), len(self.order) - len(self.sets), self.at_once]
+        told = [number for sets in self.sets.values() for number in [len(sets), *map(self.write, sets)]]
+        return self.write(self.there), counts, told
 
 
 class Numbers:
@@ -128,6 +185,27 @@ def any_call(numbers, pieces, props):
     return begins(numbers.below(8), numbers.below(4), numbers.below(4))
 
 
+def standing_lines(numbers, most):
+    """A design of up to so many pieces that mostly lean on one another, and on props till they do."""
+    pieces, props = 1 + numbers.below(most), numbers.below(3)
+    line = [begins(pieces, props, numbers.below(props + 1))]
+    for piece in range(pieces):
+        if numbers.below(6) == 0:
+            line.append(rests(piece, 0))
+            continue
+        others = [2 ** other for other in range(pieces) if other != piece] or [0]
+        line.append(rests(piece, others[numbers.below(len(others))]))
+        if numbers.below(4) == 0:
+            line.append(rests(piece, others[numbers.below(len(others))] | others[numbers.below(len(others))]))
+        if props and numbers.below(3):
+            base = (1 + numbers.below(2 ** props - 1)) * 2 ** pieces
+            line.append(rests(piece, base if numbers.below(2) else base | others[numbers.below(len(others))]))
+    return pieces, props, line
+
+
+ASKING = [fewest(), plan(), far(), needed(), spare(), state()]
+
+
 class Sweep(unittest.TestCase):
     def assert_by_the_words(self, line):
         words = ByTheWords()
@@ -150,6 +228,28 @@ class Sweep(unittest.TestCase):
             while len(line) < 80:
                 line.append(any_call(numbers, pieces, props))
             self.assert_by_the_words(line)
+
+    def test_all_that_is_asked_from_the_empty_stage(self):
+        numbers = Numbers(3)
+        most_needed = set()
+        for time in range(600):
+            pieces, props, line = standing_lines(numbers, 6 if time % 10 == 0 else 4)
+            self.assert_by_the_words(line + ASKING)
+            most_needed.add(ask(*line, needed())[-1])
+        self.assertEqual(most_needed, {-6, 0, 1, 2})
+
+    def test_all_that_is_asked_on_the_way(self):
+        numbers = Numbers(4)
+        for time in range(250):
+            pieces, props, line = standing_lines(numbers, 4)
+            moves = [*range(pieces), *range(10, 10 + props), *range(20, 20 + props)]
+            while len(line) < 55:
+                line.append(does(moves[numbers.below(len(moves))]))
+                if numbers.below(3) == 0:
+                    line.append(ASKING[numbers.below(len(ASKING))])
+                if numbers.below(20) == 0:
+                    line.append(undo())
+            self.assert_by_the_words(line + ASKING)
 
 
 if __name__ == "__main__":
